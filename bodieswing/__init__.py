@@ -1,0 +1,1 @@
+"""Bodies that move: they fly, spin, hang on springs and stay between walls."""
