@@ -42,6 +42,13 @@ class Point:
         self.speed = added(kind, motion.speed, cross(kind, motion.turning, self.arm))
 
 
+def with_number(body, what, x):
+    """A copy of the body whose what-th number is x."""
+    numbers = list(body.twenty())
+    numbers[what] = x
+    return Body(numbers)
+
+
 def how_fast(kind, body):
     return scaled(kind, body.by_weight, body.momentum)
 
@@ -49,3 +56,8 @@ def how_fast(kind, body):
 def how_it_turns(kind, body):
     own = turned_back(kind, body.turn, body.spin)
     return turned(kind, body.turn, each_times(kind, own, body.by_moment))
+
+
+def point_place(kind, body, r):
+    """Where the body's point r is. How fast it goes is not found, so that can't fail here."""
+    return added(kind, body.place, turned(kind, body.turn, r))

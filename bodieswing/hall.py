@@ -4,10 +4,6 @@ from bodieswing.kinds import make_doubles, make_singles
 from bodieswing.scene import Scene
 
 
-class UnknownCall(ValueError):
-    """A call has a number that no call is known by."""
-
-
 class Reader:
     """Reads a list of whole numbers from its beginning on, and leaves it as it is."""
 
@@ -28,9 +24,17 @@ class Reader:
         return self.calls[self.at - length:self.at]
 
 
+def kind_of(o):
+    return make_doubles() if o < 2 else make_singles()
+
+
+def other_kind_than(o):
+    return make_singles() if o < 2 else make_doubles()
+
+
 def begin(scenes, reader):
     o = reader.take()
-    scenes[o] = Scene(make_doubles() if o < 2 else make_singles())
+    scenes[o] = Scene(kind_of(o))
     return [0]
 
 
@@ -64,7 +68,45 @@ def get(scenes, reader):
     return scene.tell(first, n, reader.take())
 
 
-CALLS = {0: begin, 1: body, 2: spring, 3: walls, 4: step, 5: get}
+def put(scenes, reader):
+    scene = scenes[reader.take()]
+    first = reader.take()
+    what = reader.take()
+    return [scene.put(first, what, reader.take_row())]
+
+
+def sums(scenes, reader):
+    return scenes[reader.take()].sums()
+
+
+def box(scenes, reader):
+    return scenes[reader.take()].box()
+
+
+def slow(scenes, reader):
+    scene = scenes[reader.take()]
+    limit = reader.take()
+    return scene.slow(limit, reader.take())
+
+
+def points(scenes, reader):
+    scene = scenes[reader.take()]
+    first = reader.take()
+    n = reader.take()
+    return scene.points(first, n, reader.take_row())
+
+
+def frame(scenes, reader):
+    o = reader.take()
+    first = reader.take()
+    n = reader.take()
+    return scenes[o].frame(first, n, other_kind_than(o))
+
+
+CALLS = {
+    0: begin, 1: body, 2: spring, 3: walls, 4: step, 5: get,
+    6: put, 7: sums, 8: box, 9: slow, 10: points, 11: frame,
+}
 
 
 def answers(calls):
@@ -73,10 +115,7 @@ def answers(calls):
     scenes = {}
     given = []
     while not reader.is_done():
-        number = reader.take()
-        if number not in CALLS:
-            raise UnknownCall(f"there is no call {number}")
-        answer = CALLS[number](scenes, reader)
+        answer = CALLS[reader.take()](scenes, reader)
         given.append(len(answer))
         given.extend(answer)
     return given

@@ -58,17 +58,18 @@ def whole_root(n):
 
 
 class Kind:
-    """One kind of numbers: `digits` binary digits, e from `least` to `greatest`.
+    """One kind of numbers: `digits` binary digits, e from `least` to `greatest`, `lanes` sums side by side.
 
     What the operations give back is always in one form: m has all its digits,
     or e is the least. So equal numbers are equal pairs.
     """
 
-    def __init__(self, digits, least, greatest, sign_bit):
+    def __init__(self, digits, least, greatest, sign_bit, lanes):
         self.digits = digits
         self.least = least
         self.greatest = greatest
         self.sign_bit = sign_bit
+        self.lanes = lanes
 
     def from_bits(self, bits):
         """The number with these bits, None if it is not finite."""
@@ -90,6 +91,17 @@ class Kind:
         # The hidden digit of m, if it is there, adds the missing 1 to the field above it.
         size = ((x[1] - self.least) << (self.digits - 1)) + abs(x[0])
         return size + (1 << self.sign_bit) if x[0] < 0 else size
+
+    def nearest_bits(self, x):
+        """The bits of the number nearest to x, which may be of another kind; infinity's if x is too great."""
+        if x[0] == 0:
+            return self.to_bits(x)
+        try:
+            nearest = self.rounded(x[0], x[1])
+        except Failed:
+            infinity = (self.greatest - self.least + 2) << (self.digits - 1)
+            return infinity + (1 << self.sign_bit) if has_minus(x) else infinity
+        return self.to_bits(nearest)
 
     def rounded(self, m, e):
         """The number nearest to m times 2 to the e, of two the even one; m is not 0."""
@@ -173,8 +185,8 @@ class Kind:
 
 
 def make_doubles():
-    return Kind(53, -1074, 971, 63)
+    return Kind(53, -1074, 971, 63, 8)
 
 
 def make_singles():
-    return Kind(24, -149, 104, 31)
+    return Kind(24, -149, 104, 31, 16)

@@ -1,4 +1,4 @@
-"""A spring between points of two bodies, and its push."""
+"""A spring between points of two bodies, how it lies, and its push."""
 
 from bodieswing.bodies import Motion, Point
 from bodieswing.vectors import divided, dot, scaled, taken_off
@@ -17,6 +17,17 @@ class Spring:
         self.rest = numbers[8]
 
 
+class Span:
+    """A spring as it lies at one moment: both its ends, the way from the first to the second, and its length."""
+
+    def __init__(self, kind, spring, first_motion, second_motion):
+        # How fast the ends go is found here too: it may fail though it is not used.
+        self.first_end = Point(kind, first_motion, spring.first_point)
+        self.second_end = Point(kind, second_motion, spring.second_point)
+        self.way = taken_off(kind, self.second_end.place, self.first_end.place)
+        self.length = kind.root(dot(kind, self.way, self.way))
+
+
 class Push:
     """What a spring does: a force, and the arms by which it takes hold of both bodies."""
 
@@ -26,29 +37,33 @@ class Push:
         self.force = force
 
 
-def find_push(kind, spring, first_motion, second_motion):
-    """The spring's push, None if its ends are at one place."""
-    # How fast the points go is found ahead of that: it may fail though it is not used.
-    first = Point(kind, first_motion, spring.first_point)
-    second = Point(kind, second_motion, spring.second_point)
-    d = taken_off(kind, second.place, first.place)
-    length = kind.root(dot(kind, d, d))
-    if length[0] == 0:
-        return None
-    e = divided(kind, d, length)
-    u = dot(kind, e, taken_off(kind, second.speed, first.speed))
-    x = kind.minus(length, spring.rest)
-    c = kind.times(spring.damping, u)
-    f = kind.fused_opposite(spring.stiffness, x, c)
-    return Push(first.arm, second.arm, scaled(kind, f, e))
-
-
-def find_pushes(kind, bodies, springs):
+def find_spans(kind, bodies, springs):
     motions = {}
-    pushes = []
+    spans = []
     for spring in springs:
         for i in (spring.first, spring.second):
             if i not in motions:
                 motions[i] = Motion(kind, bodies[i])
-        pushes.append(find_push(kind, spring, motions[spring.first], motions[spring.second]))
-    return pushes
+        spans.append(Span(kind, spring, motions[spring.first], motions[spring.second]))
+    return spans
+
+
+def stretch(kind, spring, span):
+    """By how much the spring is longer than at rest."""
+    return kind.minus(span.length, spring.rest)
+
+
+def find_push(kind, spring, span):
+    """The spring's push, None if its ends are at one place."""
+    if span.length[0] == 0:
+        return None
+    e = divided(kind, span.way, span.length)
+    u = dot(kind, e, taken_off(kind, span.second_end.speed, span.first_end.speed))
+    c = kind.times(spring.damping, u)
+    f = kind.fused_opposite(spring.stiffness, stretch(kind, spring, span), c)
+    return Push(span.first_end.arm, span.second_end.arm, scaled(kind, f, e))
+
+
+def find_pushes(kind, bodies, springs):
+    spans = find_spans(kind, bodies, springs)
+    return [find_push(kind, spring, span) for spring, span in zip(springs, spans)]

@@ -10,7 +10,7 @@ from fractions import Fraction
 
 from bodieswing.hall import answers
 
-BEGIN, BODY, SPRING, WALLS, STEP, GET = range(6)
+BEGIN, BODY, SPRING, WALLS, STEP, GET, PUT, SUMS, BOX, SLOW, POINTS, FRAME = range(12)
 INF = float("inf")
 NAN = float("nan")
 
@@ -69,6 +69,61 @@ def step(o, n, dt):
 
 def get(o, first, n, what):
     return [GET, o, first, n, what]
+
+
+def put(o, first, what, numbers):
+    return [PUT, o, first, what] + row(o, numbers)
+
+
+def sums(o):
+    return [SUMS, o]
+
+
+def box(o):
+    return [BOX, o]
+
+
+def slow(o, limit, most):
+    return [SLOW, o, bits_of(o, limit), most]
+
+
+def points(o, first, n, r):
+    return [POINTS, o, first, n] + row(o, r)
+
+
+def frame(o, first, n):
+    return [FRAME, o, first, n]
+
+
+def next_up(o, x):
+    """The next number farther from 0 than x, which isn't 0."""
+    return number_of(o, bits_of(o, x) + 1)
+
+
+def next_down(o, x):
+    return number_of(o, bits_of(o, x) - 1)
+
+
+def least(o):
+    """The least number above 0."""
+    return number_of(o, 1)
+
+
+def great(o):
+    """A number of which the double is too great."""
+    return 1.5 * 2.0 ** (1023 if o < 2 else 127)
+
+
+def told(o, answer):
+    """The numbers behind a 0 that is answered, as floats."""
+    if answer[0] != 0:
+        raise AssertionError(f"refused: {answer}")
+    return [number_of(o, bits) for bits in answer[1:]]
+
+
+def signs(numbers):
+    """The numbers as texts, which tell -0.0 from 0.0."""
+    return [str(float(x)) for x in numbers]
 
 
 def changed(numbers, changes):
@@ -233,6 +288,41 @@ class Model:
         f = self.fma(-n[6], self.sub(length, n[8]), -self.mul(n[7], u))
         return a, b, [self.mul(f, x) for x in e]
 
+    def side_by_side(self, parts):
+        """The sum of products (x, y), in 8 or 16 rows."""
+        width = 8 if self.o < 2 else 16
+        rows = []
+        for j in range(width):
+            s = 0.0
+            for x, y in parts[j::width]:
+                s = self.fma(x, y, s)
+            rows.append(s)
+        while width > 1:
+            width //= 2
+            for j in range(width):
+                rows[j] = self.add(rows[j], rows[j + width])
+        return rows[0]
+
+    def stretch(self, bodies, s):
+        i, j, n = s
+        at, to = self.point(bodies[i], n[0:3])[1], self.point(bodies[j], n[3:6])[1]
+        d = [self.sub(to[k], at[k]) for k in range(3)]
+        return self.sub(self.sqrt(self.dot(d, d)), n[8])
+
+    def sums(self, bodies, springs):
+        """The ten numbers of sums; 1 x + s is rounded as x + s is."""
+        momenta = [b[11:14] for b in bodies]
+        spins = []
+        for b in bodies:
+            m = self.moment(b[4:7], b[11:14])
+            spins.append([self.add(m[k], b[14 + k]) for k in range(3)])
+        found = [self.side_by_side([(1.0, x[k]) for x in many]) for many in (momenta, spins) for k in range(3)]
+        ways = self.side_by_side([(0.5, self.mul(b[0], self.dot(b[11:14], b[11:14]))) for b in bodies])
+        turning = self.side_by_side([(0.5, self.dot(b[14:17], self.turning(b))) for b in bodies])
+        stretches = [self.stretch(bodies, s) for s in springs]
+        held = self.side_by_side([(self.mul(0.5, s[2][6]), self.mul(x, x)) for s, x in zip(springs, stretches)])
+        return found + [ways, turning, held, self.add(self.add(ways, turning), held)]
+
     def pushed(self, one, arm, force, dt):
         swing = self.moment(arm, force)
         for k in range(3):
@@ -318,10 +408,75 @@ class Second:
         self.bodies = bodies
         return [0]
 
+    def some(self, first, n):
+        """These bodies, None if there aren't so many."""
+        return None if first < 0 or n < 0 or first + n > len(self.bodies) else self.bodies[first:first + n]
+
     def get(self, first, n, what):
-        if first < 0 or n < 0 or first + n > len(self.bodies) or not 0 <= what < 20:
+        if self.some(first, n) is None or not 0 <= what < 20:
             return [-2]
-        return [0] + [bits_of(self.o, b[what]) for b in self.bodies[first:first + n]]
+        return [0] + [bits_of(self.o, b[what]) for b in self.some(first, n)]
+
+    def put(self, first, what, given):
+        n = self.numbers(given)
+        if self.some(first, len(n)) is None or what not in (4, 5, 6, 11, 12, 13, 14, 15, 16, 17, 18, 19):
+            return [-2]
+        if not all(map(math.isfinite, n)):
+            return [-3]
+        for b, x in zip(self.some(first, len(n)), n):
+            b[what] = x
+        return [0]
+
+    def sums(self):
+        try:
+            return [0] + [bits_of(self.o, x) for x in self.model.sums(self.bodies, self.springs)]
+        except Broken:
+            return [-5]
+
+    def box(self):
+        if not self.bodies:
+            return [-1]
+        # Of equal ones Python's min and max give the first.
+        found = [best([b[4 + k] for b in self.bodies]) for best in (min, max) for k in range(3)]
+        return [0] + [bits_of(self.o, x) for x in found]
+
+    def slow(self, bits, most):
+        limit = number_of(self.o, bits)
+        if not 0 <= most <= 4096:
+            return [-2]
+        if not math.isfinite(limit):
+            return [-3]
+        try:
+            speeds = [[self.model.mul(b[0], x) for x in b[11:14]] for b in self.bodies]
+            found = [i for i, v in enumerate(speeds) if self.model.dot(v, v) < limit]
+        except Broken:
+            return [-5]
+        return [len(found)] + found[:most]
+
+    def points(self, first, n, given):
+        r = self.numbers(given)
+        if self.some(first, n) is None:
+            return [-2]
+        if not all(map(math.isfinite, r)):
+            return [-3]
+        try:
+            arms = [(b, self.model.turned(b[7:11], r)) for b in self.some(first, n)]
+            return [0] + [bits_of(self.o, self.model.add(b[4 + k], a[k])) for b, a in arms for k in range(3)]
+        except Broken:
+            return [-5]
+
+    def frame(self, first, n):
+        if self.some(first, n) is None:
+            return [-2]
+        return [0] + [self.other_bits(x) for b in self.some(first, n) for x in b[4:11]]
+
+    def other_bits(self, x):
+        if self.o > 1:
+            return double(x)
+        try:
+            return single(x)
+        except OverflowError:
+            return single(math.copysign(INF, x))
 
 
 def second_answers(calls):
@@ -341,6 +496,18 @@ def second_answers(calls):
             found.append(objects[o].walls(call[3:]))
         elif call[0] == STEP:
             found.append(objects[o].step(call[2], call[3]))
-        else:
+        elif call[0] == GET:
             found.append(objects[o].get(call[2], call[3], call[4]))
+        elif call[0] == PUT:
+            found.append(objects[o].put(call[2], call[3], call[5:]))
+        elif call[0] == SUMS:
+            found.append(objects[o].sums())
+        elif call[0] == BOX:
+            found.append(objects[o].box())
+        elif call[0] == SLOW:
+            found.append(objects[o].slow(call[2], call[3]))
+        elif call[0] == POINTS:
+            found.append(objects[o].points(call[2], call[3], call[5:]))
+        else:
+            found.append(objects[o].frame(call[2], call[3]))
     return found

@@ -7,25 +7,11 @@ from bodieswing.hall import answers
 from bodieswing.kinds import make_doubles
 from bodieswing.scene import Scene
 from helper import INF, NAN, STILL, ask, begin, bits_of, bodies_after, body, changed, get, get_all, row
-from helper import spring, step, walls
+from helper import least, next_down, next_up, spring, step, walls
 
 OBJECTS = (0, 1, 2, 3)
 SPRING = [0, 0, 0, 0, 0, 0, 1, 1, 1]
 ROOM = [-1, -2, -3, 1, 2, 3]
-
-
-def next_up(o, x):
-    """The next number farther from 0 than x, which isn't 0."""
-    return helper.number_of(o, bits_of(o, x) + 1)
-
-
-def next_down(o, x):
-    return helper.number_of(o, bits_of(o, x) - 1)
-
-
-def least(o):
-    """The least number above 0."""
-    return helper.number_of(o, 1)
 
 
 class TheList(unittest.TestCase):

@@ -3,7 +3,8 @@
 import unittest
 
 import helper
-from helper import INF, NAN, STILL, ask, begin, bits_of, bodies_after, body, changed, get, get_all, spring, step, walls
+from helper import INF, NAN, STILL, ask, begin, bits_of, bodies_after, body, changed, get, get_all, signs, spring
+from helper import step, walls
 
 OBJECTS = (0, 1, 2, 3)
 ROOM = [-1, -2, -3, 1, 2, 3]
@@ -22,10 +23,6 @@ def floats_after(o, n, *calls):
 def after(o, numbers, n, dt, *calls):
     """The twenty numbers of one body, n steps later."""
     return floats_after(o, 1, begin(o), body(o, numbers), *calls, step(o, n, dt))[0]
-
-
-def signs(numbers):
-    return [str(x) for x in numbers]
 
 
 class Refusals(unittest.TestCase):
